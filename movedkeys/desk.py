@@ -2,8 +2,9 @@
 
 from movedkeys.house import House
 
-# How many numbers stand behind each call's own: begin, event, alarm, mark, move, rescale, take.
-NUMBERS_BEHIND = (2, 2, 2, 1, 2, 1, 1)
+# How many numbers stand behind each call's own: begin, event, alarm, mark, move, rescale, take,
+# come, turns, said, key, worker, trips.
+NUMBERS_BEHIND = (2, 2, 2, 1, 2, 1, 1, 1, 1, 1, 1, 1, 0)
 
 
 def answer_one(house, call, numbers):
@@ -19,7 +20,19 @@ def answer_one(house, call, numbers):
         return house.move(numbers[0], numbers[1])
     if call == 5:
         return house.rescale(numbers[0])
-    return house.take(numbers[0])
+    if call == 6:
+        return house.take(numbers[0])
+    if call == 7:
+        return house.come(numbers[0])
+    if call == 8:
+        return house.turns(numbers[0])
+    if call == 9:
+        return house.said(numbers[0])
+    if call == 10:
+        return house.key(numbers[0])
+    if call == 11:
+        return house.worker(numbers[0])
+    return house.trips()
 
 
 def answers(calls):

@@ -29,3 +29,7 @@ class Group:
         self.alarms = [alarm for alarm in self.alarms if alarm[0] > m]
         self.heard = max(self.heard, m)
         return [(alarm[1], 1, alarm[0]) for alarm in due]
+
+    def figures_of(self, key):
+        alarms = [alarm for alarm in self.alarms if alarm[1] == key]
+        return [self.events.get(key, 0), self.memories.get(key, 0), len(alarms)]

@@ -13,10 +13,18 @@ MOST_WORKERS = 6
 LAST_KEY = 99
 MOST_V = 1000
 LAST_TIME = 1000000
+MOST_TURNS = 200
 
 
 def is_worker(w):
     return 1 <= w <= MOST_WORKERS
+
+
+def counted(rows):
+    numbers = [len(rows)]
+    for row in rows:
+        numbers.extend(list(row))
+    return numbers
 
 
 class House:
@@ -72,12 +80,10 @@ class House:
         if not is_worker(n):
             return [-1]
         targets = owners_with(self.owners, n)
-        moved = [g for g in range(len(targets)) if targets[g] != self.owners[g]]
-        answer = [len(moved)]
-        for g in moved:
-            self.move_group(g, targets[g])
-            answer.extend([g, targets[g]])
-        return answer
+        moves = [(g, w) for g, w in enumerate(targets) if w != self.owners[g]]
+        for move in moves:
+            self.move_group(move[0], move[1])
+        return counted(moves)
 
     def take(self, w):
         if not is_worker(w):
@@ -90,12 +96,54 @@ class House:
         self.take_entry(w, entry)
         return list(entry) + [len(self.spoken) - said_before]
 
+    def come(self, k):
+        if not 1 <= k <= len(self.under_way):
+            return [-5]
+        trip = self.under_way.pop(k - 1)
+        said_before = len(self.spoken)
+        self.arrive(trip[0], trip[1])
+        return list(trip) + [len(self.spoken) - said_before]
+
+    def turns(self, n):
+        if n > MOST_TURNS:
+            return [-1]
+        done = 0
+        for turn in range(n):
+            done += self.go_round()
+        return [done]
+
+    def said(self, n):
+        return counted(self.spoken[n:])
+
+    def key(self, k):
+        if k > LAST_KEY:
+            return [-1]
+        g = self.group_of_key(k)
+        return [g, self.owners[g], self.holders[g]] + self.groups[g].figures_of(k)
+
+    def worker(self, w):
+        if not is_worker(w):
+            return [-1]
+        worker = self.worker_of(w)
+        held = [(g,) for g in self.held_by(w)]
+        awaited = [(g, len(worker.waiting[g])) for g in worker.waiting]
+        return [len(worker.queue)] + counted(held) + counted(awaited) + [len(worker.early)]
+
+    def trips(self):
+        return counted(self.under_way)
+
     def worker_of(self, w):
         return self.staff[w - 1]
 
+    def held_by(self, w):
+        return [g for g, holder in enumerate(self.holders) if holder == w]
+
+    def group_of_key(self, key):
+        return key % len(self.groups)
+
     def group_of(self, entry):
         if entry[0] == EVENT or entry[0] == ALARM:
-            return entry[1] % len(self.groups)
+            return self.group_of_key(entry[1])
         return entry[1]
 
     def post(self, w, entry):
@@ -120,9 +168,8 @@ class House:
             self.take_for_group(w, self.group_of(entry), entry)
 
     def take_mark(self, w, entry):
-        for g in range(len(self.groups)):
-            if self.holders[g] == w:
-                self.do_entry(w, g, entry)
+        for g in self.held_by(w):
+            self.do_entry(w, g, entry)
         self.worker_of(w).put_to_all_waiting(entry)
 
     def take_awaited(self, w, g):
@@ -138,6 +185,32 @@ class House:
             self.do_entry(w, g, entry)
         else:
             self.worker_of(w).put_to_waiting(g, entry)
+
+    def go_round(self):
+        done = 0
+        for w in range(1, MOST_WORKERS + 1):
+            if len(self.worker_of(w).queue) > 0:
+                self.take(w)
+                done += 1
+        if len(self.under_way) > 0:
+            self.come(1)
+            done += 1
+        return done
+
+    def arrive(self, g, w):
+        worker = self.worker_of(w)
+        if g in worker.waiting:
+            self.holders[g] = w
+            self.do_what_waited(w, g, worker.waiting.pop(g))
+        else:
+            worker.early[g] = True
+
+    def do_what_waited(self, w, g, waited):
+        for place, entry in enumerate(waited):
+            self.do_entry(w, g, entry)
+            if entry[0] == LEAVES:
+                self.worker_of(w).await_anew(g, waited[place + 1:])
+                return
 
     def do_entry(self, w, g, entry):
         group = self.groups[g]

@@ -23,3 +23,9 @@ class Worker:
             self.put_to_waiting(g, (AWAITED, g))
         else:
             self.waiting[g] = []
+
+    def await_anew(self, g, left_over):
+        again = (AWAITED, g)
+        if again in left_over:
+            # Ahead of "again" stand only marks that the group hears at another worker.
+            self.waiting[g] = left_over[left_over.index(again) + 1:]

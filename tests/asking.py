@@ -34,6 +34,30 @@ def take(w):
     return [6, w]
 
 
+def come(k):
+    return [7, k]
+
+
+def turns(n):
+    return [8, n]
+
+
+def said(n):
+    return [9, n]
+
+
+def key(k):
+    return [10, k]
+
+
+def worker(w):
+    return [11, w]
+
+
+def trips():
+    return [12]
+
+
 def ask(*calls):
     """The answer to each of the calls, asked as one list."""
     flat = [number for call in calls for number in call]
@@ -49,10 +73,17 @@ def last(*calls):
     return ask(*calls)[-1]
 
 
+def rows(numbers, width):
+    """The rows of an answer that tells how many there are, then each."""
+    flat = numbers[1:1 + numbers[0] * width]
+    return [tuple(flat[at:at + width]) for at in range(0, len(flat), width)]
+
+
 def house_after(*calls):
     """A house on which the calls were made, to look into."""
     house = House()
-    methods = [house.begin, house.event, house.alarm, house.mark, house.move, house.rescale, house.take]
+    methods = [house.begin, house.event, house.alarm, house.mark, house.move, house.rescale, house.take,
+               house.come, house.turns, house.said, house.key, house.worker, house.trips]
     for call in calls:
         methods[call[0]](*call[1:])
     return house

@@ -1,6 +1,6 @@
 import unittest
 
-from tests.asking import MOST, alarm, ask, begin, event, house_after, last, mark, move, rescale, take
+from tests.asking import MOST, alarm, ask, begin, come, event, house_after, last, mark, move, rescale, take
 
 
 class Refused(unittest.TestCase):
@@ -126,9 +126,8 @@ class NotHeld(unittest.TestCase):
         self.assertEqual(house.staff[0].waiting, {0: [(1, 0, 1)]})
 
     def test_awaited_that_came_early_is_held(self):
-        house = house_after(move(0, 2), take(1))
-        house.under_way.pop()
-        house.staff[1].early[0] = True
+        house = house_after(move(0, 2), take(1), come(1))
+        self.assertEqual((house.staff[1].early, house.holders), ({0: True}, [0, 1, 2, 2]))
         self.assertEqual(house.take(2), [5, 0, 0])
         self.assertEqual(house.holders, [2, 1, 2, 2])
         self.assertEqual((house.staff[1].early, house.staff[1].waiting), ({}, {}))
